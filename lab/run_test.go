@@ -254,6 +254,9 @@ func TestP2105Engine(t *testing.T) {
 		"remove 8 => ghost", "remove 8 => none", "remove 11 => resident", "access 9 9 9 9 => - + + +", "state => ok [10/0/0 9/9/3] [] 1 0", "stats => ok 4 6 3 2", "remove 77 => none", "stats => ok 4 6 3 2",
 		"text \"policy p { }\" 4 => ok", "state => ok", "access 1 1 => - -", "stats => ok 0 2 0 0", "remove 1 => none", "size => ok 6 0", `code => ok ""`,
 		"text \"policy p { queue q ghost; on miss { if full(q) { drop q front; } insert q back; forget; } }\" 4 4 => ok", "access 5 6 => - -", "state => ok []")
+	// Numbers of more digits.
+	wantRun(t, "text \"policy p { queue q resident; tag t in 255; var v = -1073741824 in -1073741824 .. 1073741824; on hit q { mark x t = t(x) + 100; set v = 1073741824 - v; } on miss { if !full(q) { insert q back; } } }\" 30 20 => ok",
+		"state => ok [] -1073741824", "access 1000 2000 1000 2000 2000 3000 => - - + + + -", "state => ok [1000/100 2000/200 3000/0] 1073741824", "access 2000 => +", "state => ok [1000/100 2000/255 3000/0] 0")
 	// One that tells more keys at once.
 	wantRun(t, "text \"policy p { queue q resident; on miss { if full(q) { evict q back; evict q front; } insert q front; } }\" 3 3 => ok", "access 1 2 18446744073709551615 4 1 => - - - -,1,18446744073709551615 -", "state => ok [1 4 2]", "stats => ok 0 5 2 0")
 }

@@ -164,6 +164,57 @@ func TestP2102(t *testing.T) {
 	wantKeys(t, zipf(t, 3, 20, 30000), plainZipf(3, 20, 30000))
 }
 
+// seedOf is the seed whose first random number is this one: each step of its making is undone.
+func seedOf(t *testing.T, z uint64) uint64 {
+	t.Helper()
+	want := z
+	over := func(n uint64) uint64 { // what n times is undone by
+		x := n
+		for range 6 {
+			x *= 2 - n*x
+		}
+		return x
+	}
+	z = (z ^ z>>31 ^ z>>62) * over(10723151780598845931)
+	z = (z ^ z>>27 ^ z>>54) * over(13787848793156543929)
+	seed := z ^ z>>30 ^ z>>60
+	seed -= 11400714819323198485
+	if got := plainRandom(seed, 1)[0]; got != want {
+		t.Fatalf("the seed %d gives %d; want %d", seed, got, want)
+	}
+	return seed
+}
+
+// Random numbers by which u is just a sum, or the next one to it, or the least or the greatest of all.
+func TestP2102Edges(t *testing.T) {
+	const all = 1 << 53
+	equal := 0
+	for _, keys := range []int{1, 2, 3, 4, 5, 10, 33, 100} {
+		sums := []float64{1}
+		for i := 1; i < keys; i++ {
+			sums = append(sums, sums[i-1]+1/float64(i+1))
+		}
+		near := []int{0, 1, all - 2, all - 1}
+		for _, sum := range sums[:keys-1] {
+			at := int(sum / sums[keys-1] * all)
+			near = append(near, at-2, at-1, at, at+1, at+2)
+		}
+		for _, n := range near {
+			seed := seedOf(t, uint64(n)<<11|uint64(n)*7%2048)
+			got := zipf(t, seed, 1, keys)
+			wantKeys(t, got, plainZipf(seed, 1, keys))
+			if u := float64(n) / all * sums[keys-1]; got[0] > 0 && u == sums[got[0]-1] {
+				equal++
+			}
+		}
+		wantKeys(t, zipf(t, seedOf(t, 0), 1, keys), []uint64{0})
+		wantKeys(t, zipf(t, seedOf(t, 1<<64-1), 1, keys), []uint64{uint64(keys - 1)})
+	}
+	if equal < 10 {
+		t.Errorf("only %d times u was a sum", equal)
+	}
+}
+
 // A key that is half as often asked for as another one stands twice as far down.
 func TestP2102Often(t *testing.T) {
 	count := make([]int, 20)
